@@ -1,0 +1,1 @@
+"""Floorcorners: straight formulas rounded down, on stretches of whole numbers."""

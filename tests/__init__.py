@@ -1,0 +1,1 @@
+"""Tests of floorcorners; run them by: python3 -m unittest discover -s tests -t ."""

@@ -1,0 +1,42 @@
+"""[2], [20]: the names of the interface, each defined in its file, with its arguments."""
+
+import ast
+import importlib
+import inspect
+import unittest
+
+FILES = {
+    "errors": {},
+    "lines": {
+        "is_line": "thing", "value": "line n", "remainder": "line n", "values": "line stretch", "normal": "line",
+        "same_everywhere": "one other", "moved": "line number", "raised": "line number", "leaned": "line number",
+        "mirrored": "line", "turned": "line", "strided": "line number", "divided": "line number add=0",
+        "rounded_up": "a b d", "nearest": "a b d", "growth": "line",
+    },
+    "corners": {
+        "upper_corners": "line stretch", "lower_corners": "line stretch", "next_upper": "line stretch n",
+        "next_lower": "line stretch n", "greatest_of": "line stretch u v", "least_of": "line stretch u v",
+        "steepest_from": "line stretch n", "flattest_from": "line stretch n", "on_upper": "line stretch n",
+        "on_lower": "line stretch n", "how_many_on_upper": "line stretch", "how_many_on_lower": "line stretch",
+        "twice_area": "line stretch",
+    },
+}
+CLASSES = {"errors": ("NoNumber", "NothingDone", "NoLine", "NotStraight", "TooFew", "BadText", "BadLine")}
+
+
+class Interface(unittest.TestCase):
+    def test_functions_and_their_arguments(self):
+        for name, functions in FILES.items():
+            module = importlib.import_module("floorcorners." + name)
+            for function, words in functions.items():
+                parameters = inspect.signature(getattr(module, function)).parameters.values()
+                self.assertEqual([str(parameter) for parameter in parameters], words.split(), function)
+
+    def test_all_are_defined_in_their_files(self):
+        for name, functions in FILES.items():
+            module = importlib.import_module("floorcorners." + name)
+            with open(module.__file__, encoding="utf-8") as file:
+                body = ast.parse(file.read()).body
+            defined = [part.name for part in body if isinstance(part, (ast.FunctionDef, ast.ClassDef))]
+            for wanted in [*functions, *CLASSES.get(name, ())]:
+                self.assertEqual(defined.count(wanted), 1, wanted)
