@@ -2,6 +2,7 @@
 
 from math import gcd
 
+from floorcorners.fraction import lowest
 from floorcorners.lines import remainder, turned, value
 
 
@@ -142,8 +143,7 @@ def _way_out(corners):
     if len(corners) == 1:
         return None
     wide, high = _way(corners[0], corners[1])
-    common = gcd(wide, high)
-    return ((high // common, wide // common), corners[1][0])
+    return (lowest(high, wide), corners[1][0])
 
 
 def _way(left, right):

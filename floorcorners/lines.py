@@ -8,11 +8,14 @@ def is_number(thing):
     return isinstance(thing, int) and not isinstance(thing, bool)
 
 
+def is_numbers(thing, many):
+    """Whether thing is a tuple of so many numbers."""
+    return isinstance(thing, tuple) and len(thing) == many and all([is_number(part) for part in thing])
+
+
 def is_line(thing):
     """Whether thing is a LINE: a tuple of three numbers, the last one from 1."""
-    if not isinstance(thing, tuple) or len(thing) != 3:
-        return False
-    return all([is_number(part) for part in thing]) and thing[2] >= 1
+    return is_numbers(thing, 3) and thing[2] >= 1
 
 
 def value(line, n):

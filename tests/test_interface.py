@@ -20,6 +20,23 @@ FILES = {
         "on_lower": "line stretch n", "how_many_on_upper": "line stretch", "how_many_on_lower": "line stretch",
         "twice_area": "line stretch",
     },
+    "compare": {
+        "at_most": "one other stretch", "same_on": "one other stretch", "greatest_lead": "one other stretch",
+        "least_lead": "one other stretch", "where_greatest": "one other stretch", "where_least": "one other stretch",
+        "first_above": "one other stretch", "last_above": "one other stretch", "first_unlike": "one other stretch",
+        "last_unlike": "one other stretch", "leads_everywhere": "one other", "at_most_everywhere": "one other",
+    },
+    "formulas": {
+        "slopes": "line stretch", "bars": "line stretch", "is_bars": "line stretch thing",
+        "least_line": "line stretch", "how_many_lines": "line stretch d", "nth_line": "line stretch d number",
+        "number_of_line": "line stretch other", "additions": "line stretch a d", "looks": "line stretch",
+    },
+    "shifts": {
+        "multipliers": "line stretch shift", "adds": "line stretch shift m", "least_shift": "line stretch",
+        "shift_line": "line stretch", "bare_multipliers": "line stretch shift", "least_bare_shift": "line stretch",
+        "word_for": "line stretch shift", "by_rounding_up": "line shift", "by_one_more": "line shift",
+        "reach": "line other", "least_rounding_shift": "line stretch",
+    },
 }
 CLASSES = {"errors": ("NoNumber", "NothingDone", "NoLine", "NotStraight", "TooFew", "BadText", "BadLine")}
 
