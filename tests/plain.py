@@ -110,6 +110,13 @@ def drawn_line(draw, most):
     return (draw.randint(-most, most), draw.randint(-most, most), d)
 
 
+def near_line(draw, line):
+    """A LINE with almost the same values, mostly in other terms."""
+    a, b, d = line
+    many = draw.randint(1, 7)
+    return (a * many + draw.randint(-1, 1), b * many + draw.randint(-many, many), max(1, d * many + draw.randint(-1, 1)))
+
+
 def drawn_stretch(draw, most, longest):
     first = draw.randint(-most, most)
     return (first, first + draw.choice((0, 1, draw.randint(0, longest), longest)))

@@ -9,7 +9,7 @@ from floorcorners.compare import (
 )
 from floorcorners.corners import lower_corners, upper_corners
 from floorcorners.lines import leaned, mirrored, moved, raised, value
-from tests.plain import BOUND, drawn_line
+from tests.plain import BOUND, drawn_line, near_line
 from tests.ways import check_ways
 
 ON_STRETCHES = (
@@ -32,13 +32,6 @@ def plain_answers(one, other, stretch):
 
 def answers(one, other, stretch):
     return tuple([function(one, other, stretch) for function in ON_STRETCHES])
-
-
-def near_line(draw, line):
-    """A LINE with almost the same values, mostly in other terms."""
-    a, b, d = line
-    many = draw.randint(1, 7)
-    return (a * many + draw.randint(-1, 1), b * many + draw.randint(-many, many), max(1, d * many + draw.randint(-1, 1)))
 
 
 def drawn_pair(draw):

@@ -37,6 +37,29 @@ FILES = {
         "word_for": "line stretch shift", "by_rounding_up": "line shift", "by_one_more": "line shift",
         "reach": "line other", "least_rounding_shift": "line stretch",
     },
+    "sums": {
+        "sum_of": "line stretch", "sum_of_squares": "line stretch", "sum_with_n": "line stretch",
+        "how_many_with": "line stretch low high", "nth_with": "line stretch low high number",
+        "how_many_same": "line other stretch", "how_many_above": "line other stretch",
+        "nth_same": "line other stretch number", "nth_above": "line other stretch number",
+        "lead_sum": "line other stretch", "values_met": "line stretch", "least_sum_to": "line stretch goal",
+    },
+    "pieces": {
+        "serves_to": "line other stretch", "serves_from": "line other stretch",
+        "serves_around": "line other stretch n", "runs": "line other stretch many",
+        "pieces": "line others stretch many", "is_cut": "line others stretch thing",
+        "stuck_at": "line others stretch many", "furthest": "line others stretch",
+    },
+    "told": {
+        "is_told": "thing", "is_line_for": "told thing", "line_for": "told", "can_fit": "told",
+        "add_span": "told a d", "how_many_having": "told d", "lines_with": "told d", "between": "one other n",
+        "three_that_bar": "told", "is_barring": "told thing", "least_left_out": "told",
+    },
+    "opened": {
+        "slope_range": "told", "value_range": "told n", "can_be": "told n number", "line_with": "told n number",
+        "sure_value": "told n", "all_sure": "told stretch", "first_open": "told stretch", "last_open": "told stretch",
+        "sure_in": "told stretch", "best_look": "told stretch",
+    },
 }
 CLASSES = {"errors": ("NoNumber", "NothingDone", "NoLine", "NotStraight", "TooFew", "BadText", "BadLine")}
 
