@@ -88,7 +88,7 @@ def looks(line, stretch):
     # a * n - d * (value at n) is the remainder of the least LINE, but for its b.
     _, first_least, last_least = least_of(line, stretch, a, -d)
     _, first_greatest, last_greatest = greatest_of(line, stretch, a, -d)
-    return tuple(sorted({first_least, last_least, first_greatest, last_greatest}))
+    return tuple(sorted(set([first_least, last_least, first_greatest, last_greatest])))
 
 
 def _slope_of_bar(line, bar, more):

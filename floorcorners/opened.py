@@ -65,8 +65,8 @@ def sure_in(told, stretch):
     """The ascending tuple of the n of the STRETCH at which the value is sure."""
     _need_fit(told)
     numbers = list(range(stretch[0], stretch[1] + 1))
-    found = zip(numbers, _ranges(told, numbers))
-    return tuple([n for n, (least, greatest) in found if least is not None and least == greatest])
+    ranges = _ranges(told, numbers)
+    return tuple([n for n, (least, greatest) in zip(numbers, ranges) if least is not None and least == greatest])
 
 
 def best_look(told, stretch):

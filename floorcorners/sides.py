@@ -24,10 +24,10 @@ def first_number_above(one, other, start):
         if p == 0:
             found = -(b // a)
             break
-        if a >= d:
+        if a > d:
             found = _first_in_cone((p, r, q), (a, b, d))
             break
-        # Both sides rise, by less than 1: the least n is had with the least y, so they change places.
+        # Both sides rise, by 1 or less: the least n is had with the least y, so n and y change places.
         turns.append((a, b, d))
         p, r, q, a, b, d = d, -b, a, q, -r, p
     for a, b, d in reversed(turns):
@@ -36,17 +36,14 @@ def first_number_above(one, other, start):
 
 
 def _first_in_cone(lower, upper):
-    """The same where lower rises by more than 0 and less than 1, upper by 1 or more."""
+    """The same where lower rises by more than 0 and less than 1, upper by more than 1."""
     p, r, q = lower
     a, b, d = upper
     fall, rise = q - p, a - d
     # With y = n + z, n has to be at least (r - q * z) / fall, which falls with z, and at least
-    # (d * z - b) / rise, which grows with z: the z next to where they meet are the best ones.
+    # (d * z - b) / rise, which grows with z. The best z are the two next to where they meet.
     z = (r * rise + b * fall) // (d * fall + q * rise)
-    least = -((q * z - r) // fall)
-    if rise == 0:
-        return least
-    return min(max(least, -((b - d * z) // rise)), max(-((q * (z + 1) - r) // fall), -((b - d * (z + 1)) // rise)))
+    return min(-((q * z - r) // fall), -((b - d * (z + 1)) // rise))
 
 
 def part_not_under(one, other, stretch):

@@ -115,6 +115,21 @@ class BesideAPlainSearch(unittest.TestCase):
             least = [shift for shift, those in enumerate(found) if those]
             self.assertEqual(least_bare_shift(line, stretch), least[0] if least else None, (line, stretch))
 
+    def test_bare_ones_around_0(self):
+        for d in (1, 2, 3, 4):
+            for a in range(-d - 1, d + 2):
+                for b in range(-1, 2):
+                    for first in range(-3, 2):
+                        for last in range(first + 1, 4):
+                            self.check_bare((a, b, d), (first, last))
+
+    def check_bare(self, line, stretch):
+        """Ends with numbers up to 3 differ by 1 / 9 or more, if at all."""
+        found = [ends(plain_bare(line, stretch, shift)) for shift in range(6)]
+        self.assertEqual([bare_multipliers(line, stretch, shift) for shift in range(6)], found, (line, stretch))
+        least = [shift for shift, those in enumerate(found) if those]
+        self.assertEqual(least_bare_shift(line, stretch), least[0] if least else None, (line, stretch))
+
     def test_words(self):
         some = 0
         for draw, line, stretch in drawn_cases(94, 250):
@@ -166,9 +181,10 @@ class Edges(unittest.TestCase):
                 function((1, 0, 3), (-4, -4), *more)
 
     def test_bare_ones_that_serve_nowhere(self):
-        """The value at 0 is not 0; a slope of 1 / 3 alone would do; the values fall behind from the first on."""
+        """The value at 0 is not 0; a slope of 1 / 3 alone would do; the values grow by too little from the first on."""
         for line, stretch in (((1, 1, 1), (0, 3)), ((1, 0, 3), (-3, 3)), ((1, 0, 3), (-3, BOUND)), ((0, 5, 1), (1, 9)),
-                              ((0, -2, 1), (1, 9)), ((1, 1, 1), (-9, -1)), ((0, 1, 1), (-1, 1))):
+                              ((0, -2, 1), (1, 9)), ((1, 1, 1), (-9, -1)), ((0, 1, 1), (-1, 1)),
+                              ((2, 3, 3), (0, 3)), ((0, -1, 1), (-3, 0))):
             self.assertIsNone(least_bare_shift(line, stretch), (line, stretch))
             for shift in (0, 3, 40, 300):
                 self.assertIsNone(bare_multipliers(line, stretch, shift))

@@ -2,7 +2,6 @@
 
 import random
 import unittest
-from fractions import Fraction
 
 from floorcorners.lines import value
 from floorcorners.sides import first_number_above, part_not_under
@@ -54,13 +53,30 @@ class Sides(unittest.TestCase):
         self.assertEqual(first_number_above((great, 0, great), (great - 1, great - 1, great), 0), great)
         self.assertEqual(first_number_above((great + 1, -1, great), (great, 0, great), 0), great + 1)
 
+    def check_part(self, one, other, stretch):
+        found = [n for n in range(stretch[0], stretch[1] + 1)
+                 if (one[0] * n + one[1]) * other[2] >= (other[0] * n + other[1]) * one[2]]
+        expected = (found[0], found[-1]) if found else None
+        self.assertEqual(part_not_under(one, other, stretch), expected, (one, other, stretch))
+
+    def test_parts_of_all_small_pairs(self):
+        small = [(a, b, d) for d in (1, 2, 3) for a in range(-2, 3) for b in range(-3, 4)]
+        for one in small[::2]:
+            for other in small:
+                self.check_part(one, other, (-4, 3))
+                self.check_part(one, other, (2, 2))
+
     def test_parts(self):
         draw = random.Random(52)
         for _ in range(800):
-            one, other = drawn_line(draw, 9), drawn_line(draw, 9)
             first = draw.randint(-25, 25)
-            stretch = (first, first + draw.randint(0, 25))
-            found = [n for n in range(stretch[0], stretch[1] + 1)
-                     if Fraction(one[0] * n + one[1], one[2]) >= Fraction(other[0] * n + other[1], other[2])]
-            expected = (found[0], found[-1]) if found else None
-            self.assertEqual(part_not_under(one, other, stretch), expected, (one, other, stretch))
+            self.check_part(drawn_line(draw, 9), drawn_line(draw, 9), (first, first + draw.randint(0, 25)))
+
+    def test_cones_around_a_whole_slope(self):
+        """One rises by more than 1, the other one by less, some of them by very little."""
+        for d in (2, 3, 7, 12):
+            for more in (1, d - 1, d + 1, 5 * d):
+                for less in (1, d - 1):
+                    for b in range(-d, 2 * d):
+                        self.check_first((d + more, b, d), (d - less, d - 1, d), -1)
+                        self.check_first((d + more, b, d), (3 * d - 1, 3 * d - 1, 3 * d), 0)

@@ -310,6 +310,10 @@ class GreatNumbers(unittest.TestCase):
         self.assertEqual(between((0, 0), (10 ** 40, 1), 10 ** 39), (0, 1))
         self.assertEqual(between((0, 0), (10 ** 40, -1), 10 ** 39), (-1, 0))
 
+    def test_between_at_the_ends(self):
+        self.assertEqual((between((0, 3), (7, 5), 0), between((0, 3), (7, 5), 7), between((4, 9), (4, 9), 4)),
+                         ((3,), (5,), (9,)))
+
     def test_slopes_of_great_ones_have_small_bottoms_at_times(self):
         for draw, told, line in long_cases(148, 40):
             low, high = [Fraction(0)] * 2
