@@ -2,7 +2,7 @@
 
 from floorcorners.compare import first_above, first_unlike, last_unlike, same_on
 from floorcorners.errors import NoLine, TooFew
-from floorcorners.lines import is_numbers, raised, value
+from floorcorners.lines import is_numbers, raised
 from floorcorners.sides import part_not_under
 
 

@@ -72,7 +72,8 @@ def between(one, other, n):
 
 def three_that_bar(told):
     """The least set of three of the pairs that no LINE has; None if some LINE has all."""
-    for three in combinations(list(as_tuples(told)), 3):
+    pairs = list(as_tuples(told))
+    for three in combinations(pairs, 3):
         left, middle, right = three
         if not three_fit(left, middle, right):
             return three
@@ -89,9 +90,9 @@ def is_barring(told, thing):
 
 def least_left_out(told):
     """The least of the sets of as few pairs as can be without which some LINE has all others."""
-    pairs = as_tuples(told)
+    pairs = list(as_tuples(told))
     for many in range(len(pairs) + 1):
-        for left_out in combinations(list(pairs), many):
+        for left_out in combinations(pairs, many):
             if can_fit([pair for pair in pairs if pair not in left_out]):
                 return left_out
 

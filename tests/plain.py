@@ -114,7 +114,8 @@ def near_line(draw, line):
     """A LINE with almost the same values, mostly in other terms."""
     a, b, d = line
     many = draw.randint(1, 7)
-    return (a * many + draw.randint(-1, 1), b * many + draw.randint(-many, many), max(1, d * many + draw.randint(-1, 1)))
+    top, add = a * many + draw.randint(-1, 1), b * many + draw.randint(-many, many)
+    return (top, add, max(1, d * many + draw.randint(-1, 1)))
 
 
 def drawn_stretch(draw, most, longest):

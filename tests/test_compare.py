@@ -158,10 +158,10 @@ class LongStretches(unittest.TestCase):
             one, other, stretch = (1, 0, d), (1, 1, d), (-BOUND, BOUND)
             first = -BOUND + (d - 1 + BOUND) % d
             last = BOUND - (BOUND + 1) % d
+            same = -BOUND if first > -BOUND else -BOUND + 1
             self.assertEqual(answers(one, other, stretch),
-                             (True, False, 0, -1, -BOUND if first > -BOUND else -BOUND + 1, first, None, None, first, last))
-            self.assertEqual(answers(other, one, stretch)[:8],
-                             (False, False, 1, 0, first, -BOUND if first > -BOUND else -BOUND + 1, first, last))
+                             (True, False, 0, -1, same, first, None, None, first, last))
+            self.assertEqual(answers(other, one, stretch)[:8], (False, False, 1, 0, first, same, first, last))
 
     def test_one_unlike_number_amid_a_great_stretch(self):
         """(n + 1) // d grows past n // d for the first time at d - 1, for the last time ahead of 0 at -1."""

@@ -135,7 +135,8 @@ class Slopes(unittest.TestCase):
             deep = (deep, (0, 5))
         for thing in (
                 None, True, False, 0, 7, "", "((2, 3), (0, 5))", (), [], ((), ()), ((2, 3),), (2, 3, 0, 5), (2, 3),
-                ((2, 3), (0, 5), (0, 5)), [(2, 3), (0, 5)], ([2, 3], (0, 5)), ((2, 3), [0, 5]), ((2, 3), 5), (2, (0, 5)),
+                ((2, 3), (0, 5), (0, 5)), [(2, 3), (0, 5)], ([2, 3], (0, 5)), ((2, 3), [0, 5]), ((2, 3), 5),
+                (2, (0, 5)),
                 ((3, 2), (0, 5)), ((2, 3), (5, 0)), ((2, 2), (0, 5)), ((2, 3), (0, 0)), ((2, 3, 3), (0, 5)),
                 ((2,), (0, 5)), ((2, None), (0, 5)), ((2, "3"), (0, 5)), ((2, 3), (False, 5)), ((2, 3), (0, True)),
                 ((0, True), (0, 5)), ((True, 3), (0, 5)), (None, None), ((0, 5), (2, 3)), ((-1, 3), (0, 5)),
@@ -185,7 +186,8 @@ class LeastLine(unittest.TestCase):
                 self.assertGreaterEqual(Fraction(a * (d - left) + 1, d * (d - left)), high)
 
     def test_a_long_stretch_tells_the_line(self):
-        self.assertEqual(least_line((10 ** 18 + 9, 5, 10 ** 18 + 10), (-BOUND, BOUND)), (10 ** 18 + 9, 5, 10 ** 18 + 10))
+        line = (10 ** 18 + 9, 5, 10 ** 18 + 10)
+        self.assertEqual(least_line(line, (-BOUND, BOUND)), line)
         self.assertEqual(least_line((6, 3, 10), (-BOUND, BOUND)), (3, 1, 5))
         self.assertEqual(least_line((7, 10 ** 39, 1), (-BOUND, 1 - BOUND)), (7, 10 ** 39, 1))
 

@@ -53,7 +53,8 @@ class Fractions(unittest.TestCase):
             bottom = 1
             while not floor(low * bottom) + 1 < high * bottom:
                 bottom += 1
-            tops = [top for top in range(floor(low * bottom), ceil(high * bottom) + 1) if low * bottom < top < high * bottom]
+            around = range(floor(low * bottom), ceil(high * bottom) + 1)
+            tops = [top for top in around if low * bottom < top < high * bottom]
             self.assertEqual(simplest_between(pair(low), pair(high)), (min(tops, key=abs), bottom))
 
     def test_the_simplest_of_great_ones(self):

@@ -79,6 +79,13 @@ class Language(unittest.TestCase):
         defined = {item.name for item in ast.parse(text).body if isinstance(item, (ast.FunctionDef, ast.ClassDef))}
         self.assertLessEqual(names, defined, path)
 
+    def test_all_imports_are_used(self):
+        for path, tree in trees():
+            imports = [part for part in tree.body if isinstance(part, ast.ImportFrom)]
+            wanted = {alias.name for part in imports for alias in part.names}
+            used = {part.id for part in ast.walk(tree) if isinstance(part, ast.Name)}
+            self.assertEqual(wanted - used, set(), path)
+
     def test_statements_and_values(self):
         for path, tree in trees():
             for part in ast.walk(tree):

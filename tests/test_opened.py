@@ -1,6 +1,5 @@
 """[11]: what TOLD values leave open."""
 
-import random
 import unittest
 from fractions import Fraction
 from itertools import combinations
@@ -58,7 +57,8 @@ class Examples(unittest.TestCase):
     def test_what_is_sure(self):
         self.assertEqual(
             (sure_value(TOLD, 3), sure_value(TOLD, 5), sure_in(TOLD, (0, 6)), all_sure(TOLD, (2, 4)),
-             first_open(TOLD, (2, 10 ** 40)), last_open(TOLD, (-9, 4)), first_open(TOLD, (2, 4)), best_look(TOLD, (0, 6))),
+             first_open(TOLD, (2, 10 ** 40)), last_open(TOLD, (-9, 4)), first_open(TOLD, (2, 4)),
+             best_look(TOLD, (0, 6))),
             (1, None, (0, 2, 3, 4), True, 5, 1, None, 1))
 
     def test_few_pairs(self):
@@ -169,7 +169,7 @@ class Edges(unittest.TestCase):
         told = ((0, 0), (BOUND, BOUND))
         self.assertEqual((first_open(told, (0, BOUND)), last_open(told, (0, BOUND))), (None, None))
         self.assertEqual((first_open(told, (0, 2 * BOUND)), last_open(told, (-BOUND, BOUND))), (BOUND + 1, -1))
-        self.assertEqual((sure_value(told, 12345), sure_value(told, BOUND + 1), sure_value(told, -1)), (12345, None, None))
+        self.assertEqual([sure_value(told, n) for n in (12345, BOUND + 1, -1)], [12345, None, None])
         self.assertEqual(value_range(told, 2 * BOUND), (2 * BOUND - 1, 2 * BOUND + 1))
         self.assertIs(all_sure(told, (0, BOUND)), True)
         self.assertIs(all_sure(told, (-1, BOUND)), False)

@@ -130,8 +130,10 @@ class BesideAPlainWalk(unittest.TestCase):
             other = other_line(draw, line)
             found = plain_runs(line, other, stretch)
             first, last = stretch
-            self.assertEqual(serves_to(line, other, stretch), found[0][1] if found and found[0][0] == first else None)
-            self.assertEqual(serves_from(line, other, stretch), found[-1][0] if found and found[-1][1] == last else None)
+            ahead = [run[1] for run in found if run[0] == first]
+            behind = [run[0] for run in found if run[1] == last]
+            self.assertEqual(serves_to(line, other, stretch), ahead[0] if ahead else None)
+            self.assertEqual(serves_from(line, other, stretch), behind[0] if behind else None)
             for n in range(first, last + 1):
                 around = [run for run in found if run[0] <= n <= run[1]]
                 self.assertEqual(serves_around(line, other, stretch, n), around[0] if around else None)

@@ -149,7 +149,8 @@ class BesideAPlainSearch(unittest.TestCase):
                 self.assertEqual(by_rounding_up(line, shift), (-(-a * bottom // d), -(-b * bottom // d), bottom))
                 m = a * bottom // d
                 self.assertEqual(by_one_more(line, shift), (m, b * bottom // d + m, bottom))
-            least = [shift for shift in range(24) if values(by_rounding_up(line, shift), stretch) == values(line, stretch)]
+            wanted = values(line, stretch)
+            least = [shift for shift in range(24) if values(by_rounding_up(line, shift), stretch) == wanted]
             found = least_rounding_shift(line, stretch)
             self.assertEqual(found if found is None or found < 24 else None, least[0] if least else None)
 
@@ -301,8 +302,9 @@ class GreatOnes(unittest.TestCase):
         for _ in range(150):
             d = draw.choice((9, 10 ** 9, 10 ** 18, BOUND))
             a, b = draw.randint(-d, d), draw.choice((0, 0, draw.randint(0, d - 1)))
-            stretch = draw.choice(((0, BOUND), (draw.randint(1, BOUND - 1), BOUND), (-BOUND, -draw.randint(1, 10 ** 39)),
-                                   (draw.randint(-99, 0), draw.randint(1, 99)), (-BOUND, BOUND)))
+            stretch = draw.choice((
+                (0, BOUND), (draw.randint(1, BOUND - 1), BOUND), (-BOUND, -draw.randint(1, 10 ** 39)),
+                (draw.randint(-99, 0), draw.randint(1, 99)), (-BOUND, BOUND)))
             shift = least_bare_shift((a, b, d), stretch)
             if shift is None:
                 self.assertIsNone(bare_multipliers((a, b, d), stretch, 290))

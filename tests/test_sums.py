@@ -149,7 +149,8 @@ class BesidePlainCounting(unittest.TestCase):
                 sums.append((n, total))
             for goal in (-9, 0, 1, total - 1, total, total + 1, draw.randint(0, total + 1)):
                 reached = [n for n, so_far in sums if so_far >= goal]
-                self.assertEqual(least_sum_to(line, stretch, goal), reached[0] if reached else None, (line, stretch, goal))
+                expected = reached[0] if reached else None
+                self.assertEqual(least_sum_to(line, stretch, goal), expected, (line, stretch, goal))
 
 
 class LongStretches(unittest.TestCase):

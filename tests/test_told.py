@@ -4,6 +4,7 @@ import random
 import unittest
 from fractions import Fraction
 from itertools import combinations
+from math import floor
 
 from floorcorners.errors import NoLine
 from floorcorners.lines import value
@@ -124,11 +125,13 @@ class Things(unittest.TestCase):
         for _ in range(10):
             deep = (deep, 0)
         for thing in (
-                None, True, 3, "", "bars", (), [], bars[:2], bars + ((4, 4),), CLASH, list(bars), ((0, 0), [2, 1], (3, 3)),
+                None, True, 3, "", "bars", (), [], bars[:2], bars + ((4, 4),), CLASH, list(bars),
+                ((0, 0), [2, 1], (3, 3)),
                 ([0, 0], [2, 1], [3, 3]), ((0, 0), (2, 1), None), ((0, 0), (3, 3), (2, 1)), ((2, 1), (0, 0), (3, 3)),
                 ((0, 0), (0, 0), (3, 3)), ((0, 0), (2, True), (3, 3)), ((False, 0), (2, 1), (3, 3)),
                 ((0, 0), (2, 1), (3, 3, 3)), ((0, 0), (2, 1), (3, 4)), ((0, 0), (2, 1), (4, 9)),
-                ((0, 0), (1, 5), (2, -5)), ((0, 0), (1, 1), (3, 3)), (deep, (2, 1), (3, 3)), (0, 2, 3), ((0,), (2,), (3,))):
+                ((0, 0), (1, 5), (2, -5)), ((0, 0), (1, 1), (3, 3)), (deep, (2, 1), (3, 3)), (0, 2, 3),
+                ((0,), (2,), (3,))):
             self.assertIs(is_barring(CLASH, thing), False, thing)
         self.assertIs(is_barring(CLASH, bars), True)
         self.assertIs(is_barring(CLASH, ((1, 1), (2, 1), (3, 3))), True)
@@ -239,8 +242,7 @@ class Edges(unittest.TestCase):
     def test_just_bent_and_just_not(self):
         """The value amid may be less than 1 off, either way."""
         great = 10 ** 20
-        for n, fits in ((1, True), (great - 1, True)):
-            self.assertIs(can_fit(((0, 0), (n, 1), (great, 1))), fits)
+        self.assertIs(can_fit(((0, 0), (great - 1, 1), (great, 1))), True)
         self.assertIs(can_fit(((0, 0), (1, 1), (great, 0))), False)
         self.assertIs(can_fit(((0, 0), (1, 1), (great, 1))), True)
         self.assertIs(can_fit(((0, 0), (great, -1), (2 * great, 0))), False)
@@ -291,11 +293,12 @@ class GreatNumbers(unittest.TestCase):
         if len(bent) <= 8:
             self.assertEqual(len(least_left_out(bent)), 1)
 
-    def test_two_threes_that_bar(self):
-        told = tuple([(n * 10 ** 38, n % 3 == 1) for n in range(40)])
-        told = tuple([(n, 7 * int(number)) for n, number in told])
+    def test_forty_pairs_of_which_many_bar(self):
+        """Each third value is 7 above the others: the first three bar already, and so do the last but one."""
+        told = tuple([(n * 10 ** 38, 7 if n % 3 == 1 else 0) for n in range(40)])
         self.assertEqual(three_that_bar(told), told[:3])
-        self.assertIs(is_barring(told, told[-3:]), is_barring(((0, 0), (1, 7), (2, 0)), ((0, 0), (1, 7), (2, 0))))
+        self.assertIs(is_barring(told, told[-4:-1]), True)
+        self.assertIs(is_barring(told, (told[0], told[2], told[3])), False)
 
     def test_counts_with_great_numbers(self):
         """At 0 and at 10 ** 40 the value 0: a is 0 for each d up to 1000 and more, and b any of d."""
@@ -314,17 +317,15 @@ class GreatNumbers(unittest.TestCase):
         self.assertEqual((between((0, 3), (7, 5), 0), between((0, 3), (7, 5), 7), between((4, 9), (4, 9), 4)),
                          ((3,), (5,), (9,)))
 
-    def test_slopes_of_great_ones_have_small_bottoms_at_times(self):
-        for draw, told, line in long_cases(148, 40):
-            low, high = [Fraction(0)] * 2
+    def test_no_less_d_does(self):
+        for _, told, _ in long_cases(148, 40):
             pairs = list(combinations(told, 2))
             low = max([Fraction(y - x - 1, n - m) for (m, x), (n, y) in pairs])
             high = min([Fraction(y - x + 1, n - m) for (m, x), (n, y) in pairs])
             a, _, d = line_for(told)
             self.assertTrue(low < Fraction(a, d) < high)
             for bottom in range(1, min(d, 60)):
-                top = low * bottom
-                self.assertFalse(top.__floor__() + 1 < high * bottom)
+                self.assertFalse(floor(low * bottom) + 1 < high * bottom)
 
 
 class Calls(unittest.TestCase):
