@@ -18,6 +18,32 @@ def ends_of_slopes(told):
     return (lowest(low[0], low[1]), lowest(high[0], high[1]))
 
 
+def ends_if_fitting(told):
+    """The same, for TOLD values, maybe many, which some LINE has for sure."""
+    low = _slope_below(steepest_bar(told, told))
+    turned_over = [(n, -number) for n, number in told]
+    high = _slope_below(steepest_bar(turned_over, turned_over))
+    return (low, (-high[0], high[1]))
+
+
+def steepest_bar(lefts, rights):
+    """A point (m, x) of lefts and a point (n, y) of rights, m below n, with the greatest (y - x - 1) / (n - m).
+
+    Some LINE has to have all of them.
+    """
+    left, right = lefts[0], rights[-1]
+    # The way that two points give is replaced by that of the two points that stand out from it by the
+    # most, until none do: then it is the steepest. The growing way never meets the upper end of the
+    # slopes, so those that stand out by the most always have m ahead of n.
+    while True:
+        wide, high = right[0] - left[0], right[1] - left[1] - 1
+        least, m, x = min([(wide * y - high * n, n, y) for n, y in lefts])
+        greatest, n, y = max([(wide * y - high * n, n, y) for n, y in rights])
+        if greatest - least <= wide:
+            return (left, right)
+        left, right = (m, x), (n, y)
+
+
 def three_fit(left, middle, right):
     """Whether some LINE has these three pairs, ascending."""
     wide = right[0] - left[0]
@@ -50,6 +76,12 @@ def _end_ways(told):
     low = greatest_quotient([_way((m, x + 1), right) for (m, x), right in pairs])
     high = least_quotient([_way(left, (n, y + 1)) for left, (n, y) in pairs])
     return (low, high)
+
+
+def _slope_below(bar):
+    """The FRACTION (y - x - 1) / (n - m) of the points (m, x) and (n, y)."""
+    (m, x), (n, y) = bar
+    return lowest(y - x - 1, n - m)
 
 
 def _way(left, right):

@@ -3,6 +3,7 @@
 from floorcorners.compare import same_on
 from floorcorners.corners import greatest_of, least_of, lower_corners, upper_corners
 from floorcorners.errors import NoNumber
+from floorcorners.fitting import steepest_bar
 from floorcorners.fraction import lowest, simplest_between, tops_between
 from floorcorners.lines import is_numbers, mirrored, value
 
@@ -99,19 +100,8 @@ def _slope_of_bar(line, bar, more):
 
 def _bar_below(line, stretch):
     """Two numbers m, n of the STRETCH with the greatest (y - x - 1) / (n - m)."""
-    uppers = upper_corners(line, stretch)
-    lowers = lower_corners(line, stretch)
-    left, right = lowers[0], uppers[-1]
-    # The way that two CORNERs give is replaced by that of the two CORNERs that stand out from it by
-    # the most, until none do: then it is the steepest. The growing way never meets the upper slope,
-    # so those that stand out by the most always have m ahead of n.
-    while True:
-        wide, high = right[0] - left[0], right[1] - left[1] - 1
-        lowest_worth, m, x = min([(wide * y - high * n, n, y) for n, y in lowers])
-        highest_worth, n, y = max([(wide * y - high * n, n, y) for n, y in uppers])
-        if highest_worth - lowest_worth <= wide:
-            return (left[0], right[0])
-        left, right = (m, x), (n, y)
+    left, right = steepest_bar(lower_corners(line, stretch), upper_corners(line, stretch))
+    return (left[0], right[0])
 
 
 def _even_spans(line, stretch, d):

@@ -2,6 +2,7 @@
 
 from floorcorners.errors import NoNumber
 from floorcorners.lines import moved, raised, value
+from floorcorners.search import first_that
 from floorcorners.sides import part_not_under
 
 
@@ -93,7 +94,7 @@ def least_sum_to(line, stretch, goal):
     first, last = stretch
     if sum_of(line, stretch) < goal:
         return None
-    return _first_that(lambda n: sum_of(line, (first, n)) >= goal, first, last)
+    return first_that(lambda n: sum_of(line, (first, n)) >= goal, first, last)
 
 
 def _sums_from_0(line, many):
@@ -138,15 +139,4 @@ def _nth(count, stretch, number):
     first, last = stretch
     if number < 0 or number >= count(stretch):
         raise NoNumber(number)
-    return _first_that(lambda n: count((first, n)) > number, first, last)
-
-
-def _first_that(holds, first, last):
-    """The least number for which it holds; it does for the last one, and for all behind one for which it does."""
-    while first < last:
-        middle = (first + last) // 2
-        if holds(middle):
-            last = middle
-        else:
-            first = middle + 1
-    return first
+    return first_that(lambda n: count((first, n)) > number, first, last)

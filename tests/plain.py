@@ -1,5 +1,6 @@
 """What the tests compare the package with: plain searches, and one other way for long STRETCHes."""
 
+import random
 from fractions import Fraction
 
 BOUND = 10 ** 40
@@ -121,3 +122,18 @@ def near_line(draw, line):
 def drawn_stretch(draw, most, longest):
     first = draw.randint(-most, most)
     return (first, first + draw.choice((0, 1, draw.randint(0, longest), longest)))
+
+
+def drawn_cases(seed, many, sizes, most, longest):
+    """(draw, LINE, STRETCH) so many times, the LINE with numbers up to one of the sizes."""
+    draw = random.Random(seed)
+    for _ in range(many):
+        yield draw, drawn_line(draw, draw.choice(sizes)), drawn_stretch(draw, most, longest)
+
+
+def long_cases(seed, many):
+    """(draw, LINE, STRETCH) so many times, the STRETCH with ends of up to forty figures."""
+    draw = random.Random(seed)
+    for _ in range(many):
+        first = draw.randint(-BOUND, BOUND)
+        yield draw, drawn_line(draw, draw.choice((12, 10 ** 20, BOUND))), (first, draw.randint(first, BOUND))

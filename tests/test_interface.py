@@ -60,6 +60,25 @@ FILES = {
         "sure_value": "told n", "all_sure": "told stretch", "first_open": "told stretch", "last_open": "told stretch",
         "sure_in": "told stretch", "best_look": "told stretch",
     },
+    "remain": {
+        "least_remainder": "line stretch", "greatest_remainder": "line stretch",
+        "first_below": "line stretch number", "last_below": "line stretch number",
+        "first_from": "line stretch number", "last_from": "line stretch number", "is_test": "thing",
+        "passes": "test n", "how_many_pass": "test stretch", "tells": "test divisor last",
+        "first_mistake": "test divisor last", "limits_for": "factor size divisor last",
+        "usual_test": "divisor width", "least_width": "divisor last",
+    },
+    "back": {
+        "least_at": "line y", "greatest_at": "line y", "inverse_least": "line", "inverse_greatest": "line",
+        "how_many_at": "line y", "is_one_to_one": "line stretch", "is_onto": "line stretch",
+        "there_and_back": "one other n", "is_lossless": "one other stretch", "first_lost": "one other stretch",
+        "least_slip": "one other stretch", "greatest_slip": "one other stretch", "least_back": "one stretch",
+    },
+    "rows": {
+        "is_row": "thing", "is_straight": "row", "line_of": "row", "is_line_of": "row thing", "slopes_of": "row",
+        "clash_in": "row", "is_clash_in": "row thing", "straight_to": "row place", "fewest_parts": "row",
+        "longest_parts": "row", "next_values": "row", "how_many_on": "row number",
+    },
 }
 CLASSES = {"errors": ("NoNumber", "NothingDone", "NoLine", "NotStraight", "TooFew", "BadText", "BadLine")}
 

@@ -9,21 +9,10 @@ from floorcorners.sums import (
     how_many_above, how_many_same, how_many_with, lead_sum, least_sum_to, nth_above, nth_same, nth_with, sum_of,
     sum_of_squares, sum_with_n, values_met,
 )
-from tests.plain import BOUND, drawn_line, drawn_stretch, near_line, points
+from tests.plain import BOUND, drawn_cases, drawn_line, long_cases, near_line, points
 from tests.ways import check_ways
 
-
-def drawn_cases(seed, many):
-    draw = random.Random(seed)
-    for _ in range(many):
-        yield draw, drawn_line(draw, draw.choice((1, 4, 15, 90, BOUND))), drawn_stretch(draw, 25, 30)
-
-
-def long_cases(seed, many):
-    draw = random.Random(seed)
-    for _ in range(many):
-        first = draw.randint(-BOUND, BOUND)
-        yield draw, drawn_line(draw, draw.choice((12, 10 ** 20, BOUND))), (first, draw.randint(first, BOUND))
+CASES = ((1, 4, 15, 90, BOUND), 25, 30)
 
 
 def other_line(draw, line):
@@ -81,7 +70,7 @@ class BesidePlainCounting(unittest.TestCase):
             self.assertEqual(caught.exception.number, number)
 
     def test_sums(self):
-        for _, line, stretch in drawn_cases(111, 500):
+        for _, line, stretch in drawn_cases(111, 500, *CASES):
             found = points(line, stretch)
             self.assertEqual(sum_of(line, stretch), sum([y for _, y in found]), (line, stretch))
             self.assertEqual(sum_of_squares(line, stretch), sum([y * y for _, y in found]), (line, stretch))
@@ -97,7 +86,7 @@ class BesidePlainCounting(unittest.TestCase):
                     self.assertEqual(sum_with_n((a, b, d), (-5, 8)), sum([n * y for n, y in found]))
 
     def test_remainders(self):
-        for draw, line, stretch in drawn_cases(112, 300):
+        for draw, line, stretch in drawn_cases(112, 300, *CASES):
             d = line[2]
             low = draw.choice((0, -3, draw.randint(-5, d + 3), draw.randint(0, d - 1)))
             high = low + draw.choice((0, 1, draw.randint(0, d), d))
@@ -118,7 +107,7 @@ class BesidePlainCounting(unittest.TestCase):
             self.assertEqual(how_many_with(line, stretch, d - 1, 2 * d), how_many_with(line, stretch, d - 1, d - 1))
 
     def test_two_lines(self):
-        for draw, line, stretch in drawn_cases(113, 350):
+        for draw, line, stretch in drawn_cases(113, 350, *CASES):
             other = other_line(draw, line)
             leads = [(n, y - value(other, n)) for n, y in points(line, stretch)]
             same = [n for n, lead in leads if lead == 0]
@@ -130,7 +119,7 @@ class BesidePlainCounting(unittest.TestCase):
             self.check_numbers(nth_above, (line, other, stretch), above)
 
     def test_values_met(self):
-        for _, line, stretch in drawn_cases(114, 400):
+        for _, line, stretch in drawn_cases(114, 400, *CASES):
             self.assertEqual(values_met(line, stretch), len({y for _, y in points(line, stretch)}), (line, stretch))
         for line in ((4, 1, 4), (-4, 1, 4), (3, 1, 4), (-3, 1, 4), (5, 1, 4), (-5, 1, 4), (0, 9, 4)):
             for first in range(-4, 5):
