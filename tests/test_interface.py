@@ -79,8 +79,30 @@ FILES = {
         "clash_in": "row", "is_clash_in": "row thing", "straight_to": "row place", "fewest_parts": "row",
         "longest_parts": "row", "next_values": "row", "how_many_on": "row number",
     },
+    "words": {
+        "is_formula": "thing", "formula_value": "text n", "slope_of": "text", "period_of": "text",
+        "line_words": "line", "formula_line": "text", "bend_of": "text", "is_bend": "text thing",
+        "same_formulas": "one other", "first_apart": "one other",
+    },
+    "board": {},
+    "texts": {
+        "line_text": "line", "stretch_text": "stretch", "told_text": "told", "row_text": "row",
+        "fraction_text": "fraction", "line_read": "text", "stretch_read": "text", "told_read": "text",
+        "row_read": "text", "fraction_read": "text",
+    },
+    "desk": {"is_request": "thing", "replies": "text"},
 }
-CLASSES = {"errors": ("NoNumber", "NothingDone", "NoLine", "NotStraight", "TooFew", "BadText", "BadLine")}
+CLASSES = {
+    "board": ("Board",),
+    "errors": ("NoNumber", "NothingDone", "NoLine", "NotStraight", "TooFew", "BadText", "BadLine"),
+}
+METHODS = {
+    "Board": {
+        "told": "self", "line": "self", "guess": "self n", "can_be": "self n", "tell": "self n number",
+        "forget": "self n", "undo": "self", "deeds": "self", "twin": "self", "__len__": "self",
+        "__contains__": "self n", "__eq__": "self other", "__init__": "self",
+    },
+}
 
 
 class Interface(unittest.TestCase):
@@ -90,6 +112,14 @@ class Interface(unittest.TestCase):
             for function, words in functions.items():
                 parameters = inspect.signature(getattr(module, function)).parameters.values()
                 self.assertEqual([str(parameter) for parameter in parameters], words.split(), function)
+
+    def test_methods_stand_in_their_class(self):
+        module = importlib.import_module("floorcorners.board")
+        for name, methods in METHODS.items():
+            for method, words in methods.items():
+                self.assertIn(method, vars(getattr(module, name)))
+                parameters = inspect.signature(vars(getattr(module, name))[method]).parameters.values()
+                self.assertEqual([str(parameter) for parameter in parameters], words.split(), method)
 
     def test_all_are_defined_in_their_files(self):
         for name, functions in FILES.items():
