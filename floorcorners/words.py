@@ -34,10 +34,10 @@ def period_of(text):
     steps = steps_of(text)
     offs = _offs_of_period(steps)
     period = len(offs)
-    # All periods are multiples of the least one, so it is reached by leaving out prime divisors.
-    for prime in _prime_divisors(period):
-        while period % prime == 0 and _repeats(offs, period // prime):
-            period = period // prime
+    # All periods are multiples of the least one, so it is reached by leaving out one divisor after the other.
+    for divisor in range(2, period + 1):
+        while period % divisor == 0 and _repeats(offs, period // divisor):
+            period = period // divisor
     return period
 
 
@@ -116,16 +116,3 @@ def _offs_of_period(steps):
 def _repeats(offs, period):
     """Whether all offs, those of some periods, are the same as those so many numbers later."""
     return offs[period:] == offs[:len(offs) - period]
-
-
-def _prime_divisors(number):
-    """The ascending list of the primes that divide the number."""
-    found = []
-    divisor = 2
-    while number > 1:
-        if number % divisor == 0:
-            found.append(divisor)
-            while number % divisor == 0:
-                number = number // divisor
-        divisor += 1
-    return found

@@ -125,7 +125,7 @@ class BesideAPlainWalk(unittest.TestCase):
             at_corners = [there_and_back(one, other, n) - n
                           for n, _ in upper_corners(one, stretch) + lower_corners(one, stretch)]
             self.assertEqual((min(at_corners), max(at_corners)), (min(slips), max(slips)))
-        self.assertGreater(kept, 1500)
+        self.assertGreater(kept, 1000)
 
     def test_least_back(self):
         some = falling = 0

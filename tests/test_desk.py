@@ -166,9 +166,9 @@ class Requests(unittest.TestCase):
         for request in ("tell 1  2", " tell 1 2", "tell 1 2 ", "tell  1 2", "tell\t1 2", "tell 1 2\n", "\ntell 1 2",
                         "tell 1,2", "tell 1 +2", "tell 1 -0", "tell 00 1", "tell 1 02", "tell - 1 2", "tell 1 --2",
                         "tell 1 2.0", "tell 1 1e3", "tell 1 0x1", "tell 1_0 2", "tell a b", "undo 1", "undo\n",
-                        "told -", "line line", "undo undo", "tell 1 2\ntell 1 2", "tell 1 \u0662", "tell 1\u00a02", "has 1 2 -3",
-                        "value 1 2 0 1", "same 1 0 3 1 0 0 0 5", "same 1 0 0 1 0 3 0 5", "count 1 0 3 1 0 3 5 4",
-                        "reach 1 0 3 1 0 3 0 -1", "sum 1 0 -1 0 5", ""):
+                        "told -", "line line", "undo undo", "tell 1 2\ntell 1 2", "tell 1 \u0662", "tell 1\u00a02",
+                        "has 1 2 -3", "value 1 2 0 1", "same 1 0 3 1 0 0 0 5", "same 1 0 0 1 0 3 0 5",
+                        "count 1 0 3 1 0 3 5 4", "reach 1 0 3 1 0 3 0 -1", "sum 1 0 -1 0 5", ""):
             self.assertIs(is_request(request), False, request)
         for request in ("sum 1 0 3 4 4", "has 0 0 1", "tell 0 0", "tell -1 -1", "same 1 0 3 1 0 3 -5 -5",
                         f"tell {BOUND} {-BOUND}", "reach 0 0 1 0 0 1 0 0"):
@@ -239,8 +239,8 @@ class Replies(unittest.TestCase):
     def test_the_first_bad_line(self):
         for text, number in (("\n", 0), ("told\n", 1), ("\ntold", 0), ("told\n\ntold", 1), ("undo\nundo\nundo\n", 3),
                              ("undo\ntell 0 0\ntell 0 1\nbad\nworse", 3), ("tell 1\ntell 2", 0), (" ", 0),
-                             ("told\n ", 1), ("undo \nundo", 0), ("undo\nsum 1 0 3 8 0\n", 1), ("told\r\ntold", 0), ("bad", 0),
-                             ("\n".join(["told"] * 59 + ["tol"]), 59)):
+                             ("told\n ", 1), ("undo \nundo", 0), ("undo\nsum 1 0 3 8 0\n", 1), ("told\r\ntold", 0),
+                             ("bad", 0), ("\n".join(["told"] * 59 + ["tol"]), 59)):
             self.assertEqual(answer_of(replies, text), (BadLine, {"number": number}), text)
         self.assertEqual(replies(""), [])
 

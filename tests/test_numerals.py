@@ -21,5 +21,11 @@ class Numerals(unittest.TestCase):
         for word in ("1234567890", "-9", "1" * 400, "-" + "1" * 400):
             self.assertIs(is_numeral(word), True, word)
 
+    def test_all_signs(self):
+        for code in range(200):
+            expected = chr(code) in "0123456789"
+            for function in (is_digits, is_numeral):
+                self.assertIs(function("1" + chr(code)), expected, code)
+
     def test_ends(self):
         self.assertEqual([end_of_digits("a12b3", at) for at in range(6)], [0, 3, 3, 3, 5, 5])

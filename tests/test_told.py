@@ -155,7 +155,7 @@ class BesideAPlainSearch(unittest.TestCase):
                 self.assertIs(is_barring(told, three), three in bars)
             if not fits:
                 self.assertEqual(answer_of(line_for, told), (NoLine, {}))
-        self.assertGreater(min(kinds.values()), 80)
+        self.assertGreater(min(kinds.values()), 50)
 
     def test_the_least_line(self):
         for _, told in drawn_cases(142, 300):

@@ -170,7 +170,7 @@ class BesideGoingThroughPeriods(unittest.TestCase):
             self.assertEqual(slope_of(text), (slope.numerator, slope.denominator), text)
             self.assertEqual(period_of(text), periods[0], text)
             less += 1 < periods[0] < most
-        self.assertGreater(less, 20)
+        self.assertGreater(less, 8)
 
     def test_straight_ones_and_bends(self):
         kinds = {True: 0, False: 0}
